@@ -1,0 +1,1 @@
+"""Basketrope: two baskets on one rope."""

@@ -1,0 +1,10 @@
+"""The bounds that the package keeps to."""
+
+LIMIT = 100000000
+MAX_EXCESS = 1000000
+MAX_WEIGHT = 1000000
+MAX_PEOPLE = 24
+MAX_LOAD = 100
+SMALL = 8
+MAX_EDITS = 60
+BATCH = 20

@@ -1,0 +1,71 @@
+"""The interface stands where the document lists it, and the files keep to their sizes."""
+
+import ast
+import importlib
+import inspect
+import pathlib
+import unittest
+
+import basketrope
+
+FOLDER = pathlib.Path(basketrope.__file__).parent
+
+# What a file of the package may import from, besides the package itself.
+LIBRARY = ("heapq", "math", "itertools", "collections")
+
+# The functions that have landed, by module, with the names of their parameters.
+FUNCTIONS = {
+    "towers": {
+        "is_tower": ["value"], "tower_error": ["value"],
+        "is_group": ["tower", "value"], "weight_of": ["tower", "group"],
+    },
+}
+
+
+def files():
+    """Return the files of the package."""
+    return sorted(FOLDER.glob("*.py"))
+
+
+class Interface(unittest.TestCase):
+    def test_functions_stand_in_their_modules(self):
+        for module, functions in FUNCTIONS.items():
+            full_name = f"basketrope.{module}"
+            for name, parameters in functions.items():
+                function = getattr(importlib.import_module(full_name), name)
+                self.assertEqual(function.__module__, full_name)
+                self.assertEqual(list(inspect.signature(function).parameters), parameters)
+
+
+class Files(unittest.TestCase):
+    def test_only_python_files(self):
+        names = {path.name for path in FOLDER.iterdir()} - {"__pycache__"}
+        self.assertEqual(names, {path.name for path in files()})
+        self.assertIn("__init__.py", names)
+
+    def test_sizes(self):
+        for path in files():
+            lines = path.read_text(encoding="ascii").splitlines()
+            self.assertLessEqual(len(lines), 399, path.name)
+            for line in lines:
+                self.assertLessEqual(len(line), 120, path.name)
+                self.assertNotIn("\t", line, path.name)
+
+    def test_sizes_of_functions(self):
+        for path in files():
+            for node in ast.walk(ast.parse(path.read_text(encoding="ascii"))):
+                if isinstance(node, ast.FunctionDef):
+                    self.assertLessEqual(node.end_lineno - node.lineno + 1, 40, (path.name, node.name))
+
+    def test_imports(self):
+        for path in files():
+            for node in ast.walk(ast.parse(path.read_text(encoding="ascii"))):
+                self.assertNotIsInstance(node, ast.Import, path.name)
+                if isinstance(node, ast.ImportFrom):
+                    self.assertEqual(node.level, 0, path.name)
+                    own = node.module.startswith("basketrope.")
+                    self.assertTrue(own or node.module in LIBRARY, (path.name, node.module))
+
+
+if __name__ == "__main__":
+    unittest.main()
