@@ -41,3 +41,28 @@ def answer_twice(test, function, *arguments):
     test.assertEqual(repr(answer), repr(again))
     test.assertEqual(repr(arguments), repr(kept))
     return answer
+
+
+# What a part of a value may be replaced with.
+PARTS = (None, True, False, 0, 1, 2, -1, 10 ** 6, LONGEST_INT, "", "plan", (), (0,), ((), ()), [], [0], {})
+
+
+def replaced(value, parts=PARTS):
+    """Return the value with each of its tuples' items, at any depth, replaced with each of the parts."""
+    found = list(parts)
+    if isinstance(value, tuple):
+        for at, item in enumerate(value):
+            found += [value[:at] + (other,) + value[at + 1:] for other in replaced(item, parts)]
+    return found
+
+
+def reshaped(value):
+    """Return the value with each of its tuples, at any depth, as a list, with an item left out, or with one twice."""
+    found = []
+    if isinstance(value, tuple):
+        found.append(list(value))
+        for at, item in enumerate(value):
+            found.append(value[:at] + value[at + 1:])
+            found.append(value[:at] + (item,) + value[at:])
+            found += [value[:at] + (other,) + value[at + 1:] for other in reshaped(item)]
+    return found

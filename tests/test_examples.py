@@ -22,6 +22,90 @@ class Examples(unittest.TestCase):
             [True, False, False, 12, 0]
         """)
 
+    def test_point_6_possible_moves(self):
+        check_session(self, """
+            >>> from basketrope.moves import after_move, is_move
+            >>> U = (2, (1, 3))
+            >>> [is_move(U, (0,), ((1,), (0,))), is_move(U, (), ((1,), ())), after_move(U, (0,), ((1,), (0,)))]
+            [True, False, (1,)]
+        """)
+
+    def test_point_6_move_between(self):
+        check_session(self, """
+            >>> from basketrope.moves import move_between
+            >>> U = (2, (1, 3))
+            >>> [move_between(U, (0,), (1,)), move_between(U, (1,), (0,)), move_between(U, (), (1,)), move_between(U, (0,), (0,))]
+            [((1,), (0,)), None, None, None]
+        """)
+
+    def test_point_7_plans(self):
+        check_session(self, """
+            >>> from basketrope.moves import groups_of, is_plan
+            >>> U = (2, (1, 3))
+            >>> P = (((0,), ()), ((1,), (0,)))
+            >>> [is_plan(U, (), P), is_plan(U, (0,), P), groups_of(U, (), P)]
+            [True, False, ((), (0,), (1,))]
+        """)
+
+    def test_point_8_sums(self):
+        check_session(self, """
+            >>> from basketrope.plans import sums_of
+            >>> U = (2, (1, 3))
+            >>> [sums_of(U), sums_of((1, (2, 2))), sums_of((1, ()))]
+            [(0, 1, 3, 4), (0, 2, 4), (0,)]
+        """)
+
+    def test_point_8_certificate(self):
+        check_session(self, """
+            >>> from basketrope.plans import certificate
+            >>> U = (2, (1, 3))
+            >>> V = (1, (1, 3))
+            >>> [certificate(U, (), (0, 1)), certificate(V, (), (1,)), certificate(U, (1,), (0,))]
+            [('plan', (((0,), ()), ((1,), (0,)), ((0,), ()))), ('gap', 1, 3), ('light',)]
+        """)
+
+    def test_point_8_certificate_holds(self):
+        check_session(self, """
+            >>> from basketrope.plans import certificate_holds
+            >>> V = (1, (1, 3))
+            >>> [certificate_holds(V, (), (1,), ('gap', 1, 3)), certificate_holds(V, (), (0,), ('gap', 1, 3)), certificate_holds(V, (1,), (0,), ('light',)), certificate_holds((1, (1, 9)), (), (1,), ('gap', 2, 9))]
+            [True, False, True, True]
+        """)
+
+    def test_point_8_fewest_moves(self):
+        check_session(self, """
+            >>> from basketrope.plans import fewest_moves, find_plan
+            >>> U = (2, (1, 3))
+            >>> V = (1, (1, 3))
+            >>> T = (4, (3, 4, 9, 20))
+            >>> [fewest_moves(U, (), (0, 1)), fewest_moves(T, (), (0, 1, 2, 3)), fewest_moves(V, (), (1,)), find_plan(U, (0,), (1,)), find_plan(U, (0,), (0,))]
+            [3, 11, None, (((1,), (0,)),), ()]
+        """)
+
+    def test_point_10_stuck(self):
+        check_session(self, """
+            >>> from basketrope.reach import reach_weight, stuck_person
+            >>> T = (4, (3, 4, 9, 20))
+            >>> W = (3, (3, 4, 9, 20))
+            >>> [stuck_person(T), reach_weight(T), stuck_person(W), reach_weight(W), stuck_person((1, (5, 5)))]
+            [None, 36, 3, 16, 0]
+        """)
+
+    def test_point_10_reach(self):
+        check_session(self, """
+            >>> from basketrope.reach import can_reach, never_down
+            >>> W = (3, (20, 3, 9, 4))
+            >>> [can_reach(W, (2, 3)), can_reach(W, (0,)), never_down(W)]
+            [True, False, (0,)]
+        """)
+
+    def test_point_10_least_excess(self):
+        check_session(self, """
+            >>> from basketrope.reach import least_excess
+            >>> [least_excess((1, (3, 4, 9, 20))), least_excess((9, (1, 2, 4))), least_excess((9, ()))]
+            [4, 1, 1]
+        """)
+
 
 if __name__ == "__main__":
     unittest.main()

@@ -19,6 +19,20 @@ FUNCTIONS = {
         "is_tower": ["value"], "tower_error": ["value"],
         "is_group": ["tower", "value"], "weight_of": ["tower", "group"],
     },
+    "moves": {
+        "is_move": ["tower", "group", "value"], "after_move": ["tower", "group", "move"],
+        "move_between": ["tower", "start", "goal"],
+        "is_plan": ["tower", "start", "value"], "groups_of": ["tower", "start", "plan"],
+    },
+    "plans": {
+        "sums_of": ["tower"], "certificate": ["tower", "start", "goal"],
+        "certificate_holds": ["tower", "start", "goal", "value"],
+        "fewest_moves": ["tower", "start", "goal"], "find_plan": ["tower", "start", "goal"],
+    },
+    "reach": {
+        "stuck_person": ["tower"], "reach_weight": ["tower"], "can_reach": ["tower", "group"],
+        "never_down": ["tower"], "least_excess": ["tower"],
+    },
 }
 
 
