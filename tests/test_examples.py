@@ -106,6 +106,62 @@ class Examples(unittest.TestCase):
             [4, 1, 1]
         """)
 
+    def test_point_12_load(self):
+        check_session(self, """
+            >>> from basketrope.values import Load
+            >>> load = Load((9, 3, 9))
+            >>> [load.weights, load.total, len(load)]
+            [(3, 9, 9), 21, 3]
+        """)
+
+    def test_point_12_operators(self):
+        check_session(self, """
+            >>> from basketrope.values import Load
+            >>> one = Load((3, 9, 9))
+            >>> other = Load((9,))
+            >>> [one[1], (one + other).weights, (one - other).weights, other in one, one in other]
+            [9, (3, 9, 9, 9), (3, 9), True, False]
+        """)
+
+    def test_point_12_text_and_equality(self):
+        check_session(self, """
+            >>> from basketrope.values import Load
+            >>> load = Load((12000, 9))
+            >>> [str(load), load == Load((9, 12000)), load == (9, 12000)]
+            ['       9  12,000', True, False]
+        """)
+
+    def test_point_12_basket(self):
+        check_session(self, """
+            >>> from basketrope.values import Basket, Load
+            >>> basket = Basket(2)
+            >>> [basket(Load((3,)), Load((1,))), basket(Load((3,)), Load(())), basket(Load((1,)), Load((1,))), basket.rides, basket.excess]
+            [2, None, None, 1, 2]
+        """)
+
+    def test_point_16_promise(self):
+        check_session(self, """
+            >>> from basketrope.promises import Promise
+            >>> made = Promise(3)
+            >>> [made.least, made.beyond(5)]
+            [3, 2]
+        """)
+
+    def test_point_17_tower_text(self):
+        check_session(self, """
+            >>> from basketrope.texts import tower_text
+            >>> V = (1, (1, 3))
+            >>> [tower_text(V), tower_text((1, ()))]
+            ['1 / 1,3', '1 / -']
+        """)
+
+    def test_point_17_parse_tower(self):
+        check_session(self, """
+            >>> from basketrope.texts import parse_tower
+            >>> parse_tower('1 / 1,0')
+            raises BadText(2)
+        """)
+
 
 if __name__ == "__main__":
     unittest.main()

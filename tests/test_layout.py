@@ -33,7 +33,27 @@ FUNCTIONS = {
         "stuck_person": ["tower"], "reach_weight": ["tower"], "can_reach": ["tower", "group"],
         "never_down": ["tower"], "least_excess": ["tower"],
     },
+    "texts": {"tower_text": ["tower"], "parse_tower": ["value"]},
 }
+
+# The classes that have landed, by module: the parameters, the methods with theirs, and the attributes.
+CLASSES = {
+    "values": {
+        "Load": (
+            ["weights"],
+            {
+                "__getitem__": None, "__add__": None, "__sub__": None, "__contains__": None,
+                "__len__": None, "__str__": None, "__eq__": None,
+            },
+            ["weights", "total"],
+        ),
+        "Basket": (["excess"], {"__call__": ["self", "one", "other"]}, ["excess", "rides"]),
+    },
+    "promises": {"Promise": (["least"], {"beyond": ["self", "number"]}, ["least"])},
+}
+
+# What an object of each class can be made of.
+MADE_OF = {"Load": ((3, 9),), "Basket": (2,), "Promise": (3,)}
 
 
 def files():
@@ -49,6 +69,25 @@ class Interface(unittest.TestCase):
                 function = getattr(importlib.import_module(full_name), name)
                 self.assertEqual(function.__module__, full_name)
                 self.assertEqual(list(inspect.signature(function).parameters), parameters)
+
+    def test_classes_stand_in_their_modules(self):
+        for module, classes in CLASSES.items():
+            full_name = f"basketrope.{module}"
+            for name, (parameters, methods, _) in classes.items():
+                shape = getattr(importlib.import_module(full_name), name)
+                self.assertEqual(shape.__module__, full_name)
+                self.assertEqual(list(inspect.signature(shape).parameters), parameters)
+                for method, expected in methods.items():
+                    self.assertIn(method, vars(shape), name)
+                    if expected is not None:
+                        self.assertEqual(list(inspect.signature(vars(shape)[method]).parameters), expected)
+
+    def test_attributes_are_there_when_an_object_is_created(self):
+        for module, classes in CLASSES.items():
+            for name, (_, _, attributes) in classes.items():
+                thing = getattr(importlib.import_module(f"basketrope.{module}"), name)(*MADE_OF[name])
+                for attribute in attributes:
+                    self.assertTrue(hasattr(thing, attribute), (name, attribute))
 
 
 class Files(unittest.TestCase):
