@@ -69,3 +69,23 @@ def plain_stuck(tower):
         if weights[person] > excess + sum(lighter):
             stuck.append(person)
     return stuck
+
+
+def shortest_plans(moves, start, goal):
+    """Return all plans with the fewest moves that lead from start to goal, ascending, by a search in breadth."""
+    found = distances(moves, start)
+    if goal not in found:
+        return []
+    plans = {start: [()]}
+    for group in sorted(found, key=lambda one: found[one]):
+        for move, reached in moves[group]:
+            if found[reached] == found[group] + 1 and found[reached] <= found[goal]:
+                plans.setdefault(reached, []).extend([(*plan, move) for plan in plans[group]])
+    return sorted(plans[goal])
+
+
+def plain_stones_hold(tower, stones):
+    """Tell whether everybody comes down with the stones, by a search over all groups."""
+    excess, weights = tower
+    found = distances(all_moves((excess, (*weights, *stones))), ())
+    return set(range(len(weights))) <= {person for group in found for person in group}

@@ -43,6 +43,14 @@ def answer_twice(test, function, *arguments):
     return answer
 
 
+def check_equal(test, one, other, expected):
+    """Check == and != of two values, both ways."""
+    test.assertIs(one == other, expected)
+    test.assertIs(other == one, expected)
+    test.assertIs(one != other, not expected)
+    test.assertIs(other != one, not expected)
+
+
 # What a part of a value may be replaced with.
 PARTS = (None, True, False, 0, 1, 2, -1, 10 ** 6, LONGEST_INT, "", "plan", (), (0,), ((), ()), [], [0], {})
 

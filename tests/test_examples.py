@@ -162,6 +162,155 @@ class Examples(unittest.TestCase):
             raises BadText(2)
         """)
 
+    def test_point_9_count_plans(self):
+        check_session(self, """
+            >>> from basketrope.counting import count_plans
+            >>> U = (2, (1, 3))
+            >>> V = (1, (1, 3))
+            >>> [count_plans(U, (), (0, 1)), count_plans((1, (1, 1)), (), (0, 1)), count_plans(V, (), (1,)), count_plans(V, (1,), (1,))]
+            [1, 2, 0, 1]
+        """)
+
+    def test_point_9_each_plan(self):
+        check_session(self, """
+            >>> from basketrope.counting import each_plan
+            >>> list(each_plan((1, (1, 1)), (), (0, 1)))
+            [(((0,), ()), ((1,), ())), (((1,), ()), ((0,), ()))]
+        """)
+
+    def test_point_11_stones_for(self):
+        check_session(self, """
+            >>> from basketrope.stones import fewest_stones, stones_for
+            >>> T = (4, (3, 4, 9, 20))
+            >>> V = (1, (1, 3))
+            >>> [stones_for(T), stones_for(V), stones_for((1, (100,))), fewest_stones((1, (100,)))]
+            [(), (2,), (1, 2, 4, 8, 16, 32, 64), 7]
+        """)
+
+    def test_point_11_stones_hold(self):
+        check_session(self, """
+            >>> from basketrope.stones import stones_hold
+            >>> V = (1, (1, 3))
+            >>> [stones_hold(V, (2,)), stones_hold(V, (5,)), stones_hold(V, (5, 1)), stones_hold(V, ())]
+            [True, False, True, False]
+        """)
+
+    def test_point_13_hoist(self):
+        check_session(self, """
+            >>> from basketrope.hoists import Hoist
+            >>> V = (1, (1, 3))
+            >>> hoist = Hoist(V)
+            >>> [hoist.tower == V, hoist.reach, hoist.is_free, len(hoist)]
+            [True, 1, False, 0]
+        """)
+
+    def test_point_13_attributes(self):
+        check_session(self, """
+            >>> from basketrope.hoists import Hoist
+            >>> [Hoist.MOST_EDITS, Hoist((1, ())).is_free]
+            [60, True]
+        """)
+
+    def test_point_13_edits(self):
+        check_session(self, """
+            >>> from basketrope.hoists import Hoist
+            >>> V = (1, (1, 3))
+            >>> hoist = Hoist(V)
+            >>> [hoist.weigh(1, 2), hoist.is_free, hoist.come(9), hoist.reach, hoist.loosen(6), hoist.leave(0), hoist.tower]
+            [1, True, 2, 3, 3, 4, (6, (2, 9))]
+        """)
+
+    def test_point_14_undo(self):
+        check_session(self, """
+            >>> from basketrope.hoists import Hoist
+            >>> V = (1, (1, 3))
+            >>> hoist = Hoist(V)
+            >>> [hoist.loosen(2), hoist.is_free, hoist.undo(), hoist.is_free]
+            [1, True, 0, False]
+        """)
+
+    def test_point_15_attempt(self):
+        check_session(self, """
+            >>> from basketrope.hoists import Hoist
+            >>> V = (1, (1, 3))
+            >>> hoist = Hoist(V)
+            >>> hoist.attempt([('come', 9), ('weigh', 3, 1)])
+            raises Rejected(1)
+        """)
+
+    def test_point_15_state(self):
+        check_session(self, """
+            >>> from basketrope.hoists import Hoist
+            >>> hoist = Hoist((1, ()))
+            >>> [hoist.come(8), hoist.state(), hoist.state(version=0)]
+            [1, (1, (8,)), (1, ())]
+        """)
+
+    def test_point_15_certificate(self):
+        check_session(self, """
+            >>> from basketrope.hoists import Hoist
+            >>> V = (1, (1, 3))
+            >>> Hoist(V).certificate((1,))
+            ('gap', 1, 3)
+        """)
+
+    def test_point_15_walk(self):
+        check_session(self, """
+            >>> from basketrope.hoists import Hoist
+            >>> list(Hoist((3, (20, 3, 9, 4))).walk())
+            [(1, 0), (3, 2), (2, 1), (0, -1)]
+        """)
+
+    def test_point_15_edits(self):
+        check_session(self, """
+            >>> from basketrope.hoists import Hoist
+            >>> hoist = Hoist((1, (7,)))
+            >>> [hoist.weigh(0, 8), hoist.edits()]
+            [1, (('weigh', 0, 8),)]
+        """)
+
+    def test_point_15_read(self):
+        check_session(self, """
+            >>> from basketrope.hoists import Hoist
+            >>> Hoist.read('1 / 1,3').tower
+            (1, (1, 3))
+        """)
+
+    def test_point_15_text_and_equality(self):
+        check_session(self, """
+            >>> from basketrope.hoists import Hoist
+            >>> V = (1, (1, 3))
+            >>> [str(Hoist(V)), Hoist(V) == Hoist((1, (3, 1)))]
+            ['2 people, excess 1, reach 1, 0 edits', True]
+        """)
+
+    def test_point_16_promised_hoist(self):
+        check_session(self, """
+            >>> from basketrope.hoists import PromisedHoist
+            >>> U = (2, (1, 3))
+            >>> hoist = PromisedHoist(U, 3)
+            >>> [hoist.beyond(hoist.reach), hoist.come(50), hoist.reach, hoist.leave(0)]
+            raises TooLow(0)
+        """)
+
+    def test_point_18_shell(self):
+        check_session(self, """
+            >>> from basketrope.hoists import Hoist
+            >>> from basketrope.shells import Shell
+            >>> Shell(Hoist((1, ()))).execute('tower')
+            '1 / -'
+        """)
+
+    def test_point_18_execute(self):
+        check_session(self, """
+            >>> from basketrope.hoists import Hoist
+            >>> from basketrope.shells import Shell
+            >>> V = (1, (1, 3))
+            >>> shell = Shell(Hoist(V))
+            >>> [shell.execute('reach'), shell.execute('stones'), shell.execute('least'), shell.execute('loosen 2'), shell.execute('free'), shell.execute('stones'), shell.execute('leave')]
+            ['1', '2', '2', 'ok 1', 'yes', '-', 'unknown command']
+        """)
+
 
 if __name__ == "__main__":
     unittest.main()

@@ -34,6 +34,8 @@ FUNCTIONS = {
         "never_down": ["tower"], "least_excess": ["tower"],
     },
     "texts": {"tower_text": ["tower"], "parse_tower": ["value"]},
+    "counting": {"count_plans": ["tower", "start", "goal"], "each_plan": ["tower", "start", "goal"]},
+    "stones": {"stones_for": ["tower"], "fewest_stones": ["tower"], "stones_hold": ["tower", "value"]},
 }
 
 # The classes that have landed, by module: the parameters, the methods with theirs, and the attributes.
@@ -50,10 +52,34 @@ CLASSES = {
         "Basket": (["excess"], {"__call__": ["self", "one", "other"]}, ["excess", "rides"]),
     },
     "promises": {"Promise": (["least"], {"beyond": ["self", "number"]}, ["least"])},
+    "hoists": {
+        "Hoist": (
+            ["tower"],
+            {
+                "come": ["self", "weight"], "leave": ["self", "person"], "weigh": ["self", "person", "weight"],
+                "loosen": ["self", "excess"], "undo": ["self"], "attempt": ["self", "edits", "* watch"],
+                "state": ["self", "* version"], "certificate": ["self", "goal", "* version"],
+                "walk": ["self", "* version"], "edits": ["self"], "read": None,
+                "__len__": None, "__str__": None, "__eq__": None,
+            },
+            ["tower", "reach", "is_free", "MOST_EDITS"],
+        ),
+        "PromisedHoist": (["tower", "least"], {}, ["tower", "reach", "is_free", "MOST_EDITS", "least"]),
+    },
+    "shells": {"Shell": (["hoist"], {"execute": ["self", "line"]}, [])},
 }
 
 # What an object of each class can be made of.
-MADE_OF = {"Load": ((3, 9),), "Basket": (2,), "Promise": (3,)}
+MADE_OF = {
+    "Load": ((3, 9),), "Basket": (2,), "Promise": (3,),
+    "Hoist": ((1, ()),), "PromisedHoist": ((1, ()), 0), "Shell": (None,),
+}
+
+
+def parameters_of(function):
+    """Return the names of the parameters, with a star before those that are passed by keyword."""
+    found = inspect.signature(function).parameters.values()
+    return [f"* {one.name}" if one.kind is one.KEYWORD_ONLY else one.name for one in found]
 
 
 def files():
@@ -68,7 +94,7 @@ class Interface(unittest.TestCase):
             for name, parameters in functions.items():
                 function = getattr(importlib.import_module(full_name), name)
                 self.assertEqual(function.__module__, full_name)
-                self.assertEqual(list(inspect.signature(function).parameters), parameters)
+                self.assertEqual(parameters_of(function), parameters)
 
     def test_classes_stand_in_their_modules(self):
         for module, classes in CLASSES.items():
@@ -76,11 +102,16 @@ class Interface(unittest.TestCase):
             for name, (parameters, methods, _) in classes.items():
                 shape = getattr(importlib.import_module(full_name), name)
                 self.assertEqual(shape.__module__, full_name)
-                self.assertEqual(list(inspect.signature(shape).parameters), parameters)
+                self.assertEqual(parameters_of(shape), parameters)
                 for method, expected in methods.items():
                     self.assertIn(method, vars(shape), name)
                     if expected is not None:
-                        self.assertEqual(list(inspect.signature(vars(shape)[method]).parameters), expected)
+                        self.assertEqual(parameters_of(vars(shape)[method]), expected)
+
+    def test_read_is_a_class_method(self):
+        shape = importlib.import_module("basketrope.hoists").Hoist
+        self.assertIsInstance(vars(shape)["read"], classmethod)
+        self.assertEqual(parameters_of(shape.read), ["text"])
 
     def test_attributes_are_there_when_an_object_is_created(self):
         for module, classes in CLASSES.items():

@@ -9,7 +9,7 @@ import unittest
 from basketrope.errors import BadLoad, Missing, NoPlace, TooMuch
 from basketrope.values import Basket, Load
 from tests.raising import check_only_read, check_raises, check_raises_bare
-from tests.samples import WRONG_NUMBERS, odd_values
+from tests.samples import WRONG_NUMBERS, check_equal, odd_values
 
 TOP = 10 ** 6
 SOME = ((), (1,), (TOP,), (9, 3, 9), (5, 4, 3, 2, 1), (7,) * 6, (TOP, 1, TOP - 1, 1000, 999, 1000))
@@ -265,28 +265,21 @@ class Texts(unittest.TestCase):
 
 
 class Equal(unittest.TestCase):
-    def check(self, one, other, expected):
-        """Check == and != both ways."""
-        self.assertIs(one == other, expected)
-        self.assertIs(other == one, expected)
-        self.assertIs(one != other, not expected)
-        self.assertIs(other != one, not expected)
-
     def test_the_same_weights_in_another_order(self):
         for weights in itertools.permutations((20, 3, 9, 3)):
-            self.check(Load(weights), Load((3, 20, 3, 9)), True)
-        self.check(Load(()), Load(()), True)
+            check_equal(self, Load(weights), Load((3, 20, 3, 9)), True)
+        check_equal(self, Load(()), Load(()), True)
 
     def test_other_weights(self):
         for others in [(), (3,), (9,), (3, 9), (3, 9, 9, 9), (3, 3, 9), (12, 9), (21,), (4, 8, 9), (3, 9, 10)]:
-            self.check(Load((9, 3, 9)), Load(others), False)
+            check_equal(self, Load((9, 3, 9)), Load(others), False)
 
     def test_other_values(self):
         for weights in SOME:
             load = Load(weights)
             for value in [*odd_values(), load.weights, weights, list(weights), load.total, len(load), str(load)]:
-                self.check(load, value, False)
-            self.check(load, Basket(3), False)
+                check_equal(self, load, value, False)
+            check_equal(self, load, Basket(3), False)
 
     def test_loads_in_tuples(self):
         self.assertEqual((Load((3, 9)), 1), (Load((9, 3)), 1))

@@ -10,7 +10,9 @@ from tests.samples import LONGEST_INT, odd_values
 
 LIMIT = 10 ** 8
 
-WRONG = (None, True, False, -1, LIMIT + 1, LONGEST_INT, -LONGEST_INT, "", "3", (), (3,), [3], {}, Load((3,)), Promise(3))
+WRONG = (
+    None, True, False, -1, LIMIT + 1, LONGEST_INT, -LONGEST_INT, "", "3", (), (3,), [3], {}, Load((3,)), Promise(3),
+)
 
 
 class Made(unittest.TestCase):
